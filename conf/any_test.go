@@ -79,7 +79,7 @@ func (h *hand) ruleByHand() (r api.Rule) {
 	r.Chain = slices.Index([]string{"in", "out", "redistribute", "install"}, chain)
 	h.wrong(ok && r.Chain < 0, 90)
 	var said []string
-	done := false
+	done, noName := false, false
 	for !done && h.err == 0 {
 		word, ok := h.next()
 		if !ok {
@@ -90,6 +90,7 @@ func (h *hand) ruleByHand() (r api.Rule) {
 		switch word {
 		case "if":
 			r.If, _ = h.next()
+			noName = r.If == ""
 		case "dst":
 			r.Dst, r.HasDst = h.prefix(), true
 		case "src":
@@ -121,7 +122,7 @@ func (h *hand) ruleByHand() (r api.Rule) {
 	if r.HasDst && !le {
 		r.Le = r.Ge
 	}
-	h.wrong(!ruleMayBeByHand(r), 91)
+	h.wrong(noName || !ruleMayBeByHand(r), 91)
 	return r
 }
 

@@ -204,6 +204,8 @@ func TestParseRefusesALine(t *testing.T) { // P9.4
 		"filter in dst x deny":                       api.ErrValue,
 		"filter in dst ::/0 ge 129 deny":             api.ErrValue,
 		"filter in if a/b deny":                      api.ErrValue,
+		`filter in if "" allow`:                      api.ErrValue,
+		`filter out dst 10.0.0.0/8 if "" deny`:       api.ErrValue,
 		"filter in add 65536":                        api.ErrValue,
 		"announce metric 5":                          api.ErrValue,
 		"announce x metric 5":                        api.ErrValue,

@@ -29,6 +29,8 @@ func ParseRule(words ...string) (api.Rule, api.Errno) {
 		return api.Rule{}, api.ErrWord
 	case said["ge"]+said["le"] > 0 && !r.HasDst:
 		return api.Rule{}, api.ErrWord
+	case said["if"] > 0 && !isName(r.If): // CheckRule would take "" for no if at all
+		return api.Rule{}, api.ErrValue
 	}
 	if r.HasDst && said["ge"] == 0 {
 		r.Ge, _ = bits(r.Dst)
